@@ -40,7 +40,7 @@ func Bytes(l []string) ([]byte, api.Errno) {
 		}
 		room -= len(s) + 1
 	}
-	return ended(l), api.OK
+	return Ended(l), api.OK
 }
 
 // Split answers so many parts of b, each of whole lines, as even as can be.
@@ -55,13 +55,13 @@ func Split(b []byte, parts int) ([][]byte, api.Errno) {
 	n := len(lines)
 	out := make([][]byte, parts)
 	for k := range parts {
-		out[k] = ended(lines[k*n/parts : (k+1)*n/parts])
+		out[k] = Ended(lines[k*n/parts : (k+1)*n/parts])
 	}
 	return out, api.OK
 }
 
-// ended has no limit of its own: a last line that had no end gets one, which may be a byte above api.MaxBytes.
-func ended(l []string) []byte {
+// Ended answers the lines, each ended by a line feed. It has no limit of its own: a last line that had no end gets one, which may be a byte above api.MaxBytes.
+func Ended(l []string) []byte {
 	var out []byte
 	for _, s := range l {
 		out = append(out, s...)
