@@ -336,6 +336,35 @@ func TestDoIsWhatItIsTheLongWay(t *testing.T) {
 	}
 }
 
+// Over does to lines what Do does to bytes, and has no limit of bytes.
+func TestOver(t *testing.T) {
+	for _, s := range texts("ab \n", 5) {
+		lines, _ := line.Of([]byte(s))
+		kept := slices.Clone(lines)
+		for _, c := range more() {
+			got, e := Over(c, lines)
+			if e != api.OK || string(line.Ended(got)) != plain(c, lines) {
+				t.Fatalf("%v of %q: %q, %d; want %q", c, lines, got, e, plain(c, lines))
+			}
+			for i := range got {
+				got[i] = "#"
+			}
+			if !slices.Equal(lines, kept) {
+				t.Fatalf("%v: the lines are now %q, they were %q", c, lines, kept)
+			}
+		}
+	}
+	long := []string{strings.Repeat("b", api.MaxBytes), strings.Repeat("a", 2*api.MaxBytes)}
+	if got, e := Over(api.Command{Kind: api.Sort}, long); e != api.OK || len(got) != 2 || got[0] != long[1] || got[1] != long[0] {
+		t.Errorf("long lines: %d of them, %d", len(got), e)
+	}
+	for c, want := range wrong() {
+		if got, e := Over(c, []string{"a"}); e != want || got != nil {
+			t.Errorf("%v: %q, %d; want none, %d", c, got, e, want)
+		}
+	}
+}
+
 // What is handed in stays as it is, the room behind it too, and what is answered outlives it.
 func TestHandedInIsOnlyReadAndNotKept(t *testing.T) {
 	const text = "ba a\nab b\nab b\nb"
