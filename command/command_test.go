@@ -132,6 +132,20 @@ func TestEach(t *testing.T) {
 	}
 }
 
+// TestHas: no kind has both, and what is no kind has neither.
+func TestHas(t *testing.T) {
+	words := []int{api.Keep, api.Drop, api.Swap}
+	numbers := []int{api.Field, api.Head, api.Tail}
+	for kind := -1; kind <= api.Tail+1; kind++ {
+		if got, want := HasWord(kind), slices.Contains(words, kind); got != want {
+			t.Errorf("%d: has a word: %v", kind, got)
+		}
+		if got, want := HasNumber(kind), slices.Contains(numbers, kind); got != want {
+			t.Errorf("%d: has a number: %v", kind, got)
+		}
+	}
+}
+
 func TestDo(t *testing.T) {
 	for _, x := range []struct {
 		c        api.Command
