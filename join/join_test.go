@@ -386,6 +386,49 @@ func TestSumTakesJustTheNumbers(t *testing.T) {
 	}
 }
 
+// Over does to lists of lines what Do does to parts, and has no limit of them, nor of bytes.
+func TestOver(t *testing.T) {
+	few := texts("a1\n", 3)
+	for _, a := range few {
+		for _, b := range few {
+			la, _ := line.Of([]byte(a))
+			lb, _ := line.Of([]byte(b))
+			lists := [][]string{la, lb, la}
+			kept := [][]string{slices.Clone(la), slices.Clone(lb), slices.Clone(la)}
+			for _, j := range joins() {
+				want, _ := Do(j.how, j.c, of(a, b, a))
+				got, e := Over(j.how, j.c, lists)
+				if e != api.OK || !bytes.Equal(line.Ended(got), want) {
+					t.Fatalf("%d %v of %q: %q, %d; want %q", j.how, j.c, lists, got, e, want)
+				}
+				for i := range got {
+					got[i] = "#"
+				}
+				if !slices.EqualFunc(lists, kept, slices.Equal) {
+					t.Fatalf("%d %v: the lists are now %q, they were %q", j.how, j.c, lists, kept)
+				}
+			}
+		}
+	}
+	long := []string{strings.Repeat("a", api.MaxBytes), strings.Repeat("b", api.MaxBytes)}
+	lists := slices.Repeat([][]string{long}, api.MaxWidth+1)
+	for _, j := range joins() {
+		if got, e := Over(j.how, j.c, lists); e != api.OK || j.how == api.Merge && (len(got) != 2*len(lists) || got[api.MaxWidth] != long[0] || got[api.MaxWidth+1] != long[1]) {
+			t.Errorf("%d %v of many: %d lines, %d", j.how, j.c, len(got), e)
+		}
+	}
+	for c, want := range wrong() {
+		if got, e := Over(api.Again, c, lists); e != want || got != nil {
+			t.Errorf("again %v: %q, %d; want none, %d", c, got, e, want)
+		}
+	}
+	for _, how := range []int{smallest, 0, api.Again + 1, most} {
+		if got, e := Over(how, api.Command{}, nil); e != api.ErrForm || got != nil {
+			t.Errorf("%d: %q, %d; want none, ErrForm", how, got, e)
+		}
+	}
+}
+
 // What is handed in stays as it is, the room behind it too, and what is answered outlives it.
 func TestHandedInIsOnlyReadAndNotKept(t *testing.T) {
 	const text = "b\na\na\n1"

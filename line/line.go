@@ -14,18 +14,7 @@ func Of(b []byte) ([]string, api.Errno) {
 	if len(b) > api.MaxBytes {
 		return nil, api.ErrMany
 	}
-	var lines []string
-	start := 0
-	for i, c := range b {
-		if c == feed {
-			lines = append(lines, string(b[start:i]))
-			start = i + 1
-		}
-	}
-	if start < len(b) {
-		lines = append(lines, string(b[start:]))
-	}
-	return lines, api.OK
+	return All(b), api.OK
 }
 
 // Bytes answers the lines one behind the other, each ended by a line feed.
@@ -49,6 +38,27 @@ func Split(b []byte, parts int) ([][]byte, api.Errno) {
 	if e != api.OK {
 		return nil, e
 	}
+	return Parts(lines, parts)
+}
+
+// All answers what Of does, however many bytes there are.
+func All(b []byte) []string {
+	var lines []string
+	start := 0
+	for i, c := range b {
+		if c == feed {
+			lines = append(lines, string(b[start:i]))
+			start = i + 1
+		}
+	}
+	if start < len(b) {
+		lines = append(lines, string(b[start:]))
+	}
+	return lines
+}
+
+// Parts answers what Split does, of lines, however many bytes they have.
+func Parts(lines []string, parts int) ([][]byte, api.Errno) {
 	if parts < 1 || parts > api.MaxWidth {
 		return nil, api.ErrRange
 	}

@@ -171,6 +171,35 @@ func TestSplitEndsTheMostBytes(t *testing.T) {
 	}
 }
 
+// All and Parts do what Of and Split do, and have no limit of bytes.
+func TestAllAndParts(t *testing.T) {
+	for _, s := range texts("a\n", 7) {
+		lines, _ := Of([]byte(s))
+		if got := All([]byte(s)); !slices.Equal(got, lines) {
+			t.Errorf("All(%q) = %q, want %q", s, got, lines)
+		}
+		for parts := 1; parts <= api.MaxWidth; parts++ {
+			want, _ := Split([]byte(s), parts)
+			if got, e := Parts(lines, parts); e != api.OK || !slices.EqualFunc(got, want, bytes.Equal) {
+				t.Errorf("Parts(%q, %d) = %q, %d; want %q", lines, parts, got, e, want)
+			}
+		}
+	}
+	many := All([]byte(strings.Repeat("a\n", 3*api.MaxBytes) + "b"))
+	if len(many) != 3*api.MaxBytes+1 || many[0] != "a" || many[3*api.MaxBytes] != "b" {
+		t.Errorf("all of many bytes: %d lines", len(many))
+	}
+	got, e := Parts(many[1:], 3)
+	if want := strings.Repeat("a\n", api.MaxBytes); e != api.OK || len(got) != 3 || string(got[0]) != want || string(got[1]) != want || string(got[2]) != want[2:]+"b\n" {
+		t.Errorf("parts of many bytes: %d, %d", len(got), e)
+	}
+	for _, parts := range []int{-1, 0, api.MaxWidth + 1} {
+		if got, e := Parts(many, parts); e != api.ErrRange || got != nil {
+			t.Errorf("%d parts: %d, %d; want none, ErrRange", parts, len(got), e)
+		}
+	}
+}
+
 func TestOfOfBytesIsTheLines(t *testing.T) {
 	words := texts("a \n", 2)
 	for _, a := range words {
