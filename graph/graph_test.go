@@ -785,3 +785,56 @@ func TestAnswersAreNew(t *testing.T) {
 		}
 	}
 }
+
+func TestMade(t *testing.T) {
+	files := of("a", "3\n1\n2\n0")
+	head := api.Command{Kind: api.Head, N: 3}
+	for name, x := range map[string]struct {
+		n    api.Node
+		in   []string
+		want []string
+	}{
+		"a source":        {source("a"), nil, []string{"3\n1\n2\n0\n"}},
+		"no such file":    {source("b"), nil, []string{""}},
+		"a split":         {split(3, 0, 0), []string{"a\nb\nc\nd"}, []string{"a\n", "b\n", "c\nd\n"}},
+		"a work":          {work(turned, 9, 9), []string{"ab\ncd"}, []string{"ba\ndc\n"}},
+		"work on nothing": {work(counted, 0, 0), []string{""}, []string{"0\n"}},
+		"behind":          {joined(api.Behind, 0, 0, 0, 0), []string{"b", "a"}, []string{"b\na\n"}},
+		"a merge":         {joined(api.Merge, 0, 0, 1, 0), []string{"b\nd\n", "a\nc"}, []string{"a\nb\nc\nd\n"}},
+		"a sum":           {joined(api.Sum, 0, 0, 1, 0), []string{"2", "3\n"}, []string{"5\n"}},
+		"again":           {again(head, 0, 0, 1, 0), []string{"a\nb", "c\nd\n"}, []string{"a\nb\nc\n"}},
+		"a sink":          {sink(0, 0), []string{"a"}, nil},
+	} {
+		var in [][]byte
+		for _, s := range x.in {
+			in = append(in, []byte(s))
+		}
+		got, e := Made(x.n, files, in)
+		var texts []string
+		for _, b := range got {
+			texts = append(texts, string(b))
+		}
+		if e != api.OK || !slices.Equal(texts, x.want) {
+			t.Errorf("%s: %q, %d; want %q", name, texts, e, x.want)
+		}
+		if b, e := Made(x.n, files, append(in, nil)); b != nil || e != api.ErrForm {
+			t.Errorf("%s: one more input: %q, %d", name, b, e)
+		}
+	}
+	if b, e := Made(work(turned, 0, 0), nil, nil); b != nil || e != api.ErrForm {
+		t.Errorf("an input too few: %q, %d", b, e)
+	}
+	if b, e := Made(api.Node{}, nil, nil); b != nil || e != api.ErrForm {
+		t.Errorf("no node: %q, %d", b, e)
+	}
+	if b, e := Made(split(0, 0, 0), nil, make([][]byte, 1)); b != nil || e != api.ErrRange {
+		t.Errorf("a split 0 wide: %q, %d", b, e)
+	}
+	if b, e := Made(source("a"), of("b", "", "a", ""), nil); b != nil || e != api.ErrTwice {
+		t.Errorf("wrong files: %q, %d", b, e)
+	}
+	many := []byte(strings.Repeat("ab\n", 5*api.MaxBytes))
+	if b, e := Made(work(turned, 0, 0), nil, [][]byte{many}); e != api.OK || string(b[0]) != strings.Repeat("ba\n", 5*api.MaxBytes) {
+		t.Errorf("many bytes: %d", e)
+	}
+}
